@@ -1,0 +1,1 @@
+"""Ways as strings between marks. The calls stand in peglines.ways."""

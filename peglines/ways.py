@@ -1,0 +1,142 @@
+"""Ways as strings between marks.
+
+Marks and ways come as lists of whole numbers, x then y for each place.
+Each call answers one list; a refusal is its number alone.
+"""
+
+MOST_MARKS = 32
+MOST_PLACES = 1024
+FARTHEST = 1048576
+
+WRONG_COUNT = -2
+NONE_FOUND = -3
+WRONG_PLACE = -8
+TOUCHES_MARK = -9
+
+
+def touch(marks, a):
+    """Answer 0, the first step that touches a mark, and the least mark that it touches."""
+    pegs = places_of(marks)
+    way = places_of(a)
+    refused = refusal_of_places(pegs, way)
+    if refused != 0:
+        return [refused]
+    found = first_touch(pegs, way)
+    if found is None:
+        return [NONE_FOUND]
+    return [0, found[0], found[1]]
+
+
+def word(marks, a):
+    """Answer how many letters the way's word has, then the letters."""
+    pegs = places_of(marks)
+    way = places_of(a)
+    refused = refusal_of_untouching(pegs, way)
+    if refused != 0:
+        return [refused]
+    letters = letters_of_way(pegs, way)
+    return [len(letters)] + letters
+
+
+def places_of(numbers):
+    """The places of a flat list, as pairs (x, y)."""
+    return [(numbers[i], numbers[i + 1]) for i in range(0, len(numbers), 2)]
+
+
+def refusal_of_untouching(pegs, way):
+    """The refusal of a call whose way may touch no mark, or 0."""
+    refused = refusal_of_places(pegs, way)
+    if refused != 0:
+        return refused
+    if first_touch(pegs, way) is not None:
+        return TOUCHES_MARK
+    return 0
+
+
+def refusal_of_places(pegs, way):
+    """The refusal of marks and a way by their counts and places, or 0."""
+    if not is_count(len(pegs), MOST_MARKS) or not is_count(len(way), MOST_PLACES):
+        return WRONG_COUNT
+    if has_far_place(pegs) or has_far_place(way) or has_place_twice(pegs):
+        return WRONG_PLACE
+    return 0
+
+
+def is_count(count, most):
+    return count >= 1 and count <= most
+
+
+def has_far_place(places):
+    for place in places:
+        if abs(place[0]) > FARTHEST or abs(place[1]) > FARTHEST:
+            return True
+    return False
+
+
+def has_place_twice(places):
+    seen = {}
+    for place in places:
+        if place in seen:
+            return True
+        seen[place] = True
+    return False
+
+
+def steps_of(way):
+    """The steps of a way, as pairs (start, end)."""
+    if len(way) == 1:
+        # A way of one place has one step all the same: from that place to itself.
+        return [(way[0], way[0])]
+    return [(way[i], way[i + 1]) for i in range(len(way) - 1)]
+
+
+def first_touch(pegs, way):
+    """The first step that touches a mark and the least mark that it touches, or None."""
+    for number, step in enumerate(steps_of(way)):
+        for k, peg in enumerate(pegs):
+            if lies_on(peg, step[0], step[1]):
+                return (number, k)
+    return None
+
+
+def lies_on(place, start, end):
+    """Whether the place lies on the straight from start to end, its ends too."""
+    # The side alone would take in the straight's prolongation, and of a step to the same place every place.
+    return (
+        is_between(place[0], start[0], end[0])
+        and is_between(place[1], start[1], end[1])
+        and side_of(place, start, end) == 0
+    )
+
+
+def is_between(number, one, other):
+    return min(one, other) <= number and number <= max(one, other)
+
+
+def side_of(place, start, end):
+    """Above 0 if the place lies to the left of the straight from start to end, 0 on it, below 0 to the right."""
+    along = (end[0] - start[0]) * (place[1] - start[1])
+    across = (end[1] - start[1]) * (place[0] - start[0])
+    return along - across
+
+
+def letters_of_way(pegs, way):
+    """The letters of a way that touches no mark."""
+    eastward = sorted(range(len(pegs)), key=lambda k: (pegs[k][0], k))
+    letters = []
+    for step in steps_of(way):
+        letters.extend(letters_of_step(pegs, eastward, step[0], step[1]))
+    return letters
+
+
+def letters_of_step(pegs, eastward, start, end):
+    """The letters of one step; eastward has the marks' numbers as a step going east comes to their lines."""
+    if start[0] <= end[0]:
+        return [k + 1 for k in eastward if is_crossed(pegs[k], start, end)]
+    return [-(k + 1) for k in reversed(eastward) if is_crossed(pegs[k], end, start)]
+
+
+def is_crossed(peg, west, east):
+    """Whether a step between its west end and its east end crosses the line that hangs from the mark."""
+    # A mark to the left of the straight that goes east lies above it, so no division is needed.
+    return west[0] < peg[0] and peg[0] <= east[0] and side_of(peg, west, east) > 0

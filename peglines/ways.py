@@ -11,6 +11,7 @@ FARTHEST = 1048576
 WRONG_COUNT = -2
 NONE_FOUND = -3
 WRONG_PLACE = -8
+OTHER_ENDS = -8
 TOUCHES_MARK = -9
 
 
@@ -18,7 +19,7 @@ def touch(marks, a):
     """Answer 0, the first step that touches a mark, and the least mark that it touches."""
     pegs = places_of(marks)
     way = places_of(a)
-    refused = refusal_of_places(pegs, way)
+    refused = refusal_of_places(pegs, [way])
     if refused != 0:
         return [refused]
     found = first_touch(pegs, way)
@@ -31,11 +32,35 @@ def word(marks, a):
     """Answer how many letters the way's word has, then the letters."""
     pegs = places_of(marks)
     way = places_of(a)
-    refused = refusal_of_untouching(pegs, way)
+    refused = refusal_of_untouching(pegs, [way])
     if refused != 0:
         return [refused]
     letters = letters_of_way(pegs, way)
     return [len(letters)] + letters
+
+
+def string(marks, a):
+    """Answer how many letters the way's string has, then the letters."""
+    pegs = places_of(marks)
+    way = places_of(a)
+    refused = refusal_of_untouching(pegs, [way])
+    if refused != 0:
+        return [refused]
+    letters = string_of_way(pegs, way)
+    return [len(letters)] + letters
+
+
+def same(marks, a, b):
+    """Answer 1 if the two ways are one string, else 0."""
+    pegs = places_of(marks)
+    one = places_of(a)
+    other = places_of(b)
+    refused = refusal_of_joined(pegs, one, other)
+    if refused != 0:
+        return [refused]
+    if string_of_way(pegs, one) == string_of_way(pegs, other):
+        return [1]
+    return [0]
 
 
 def places_of(numbers):
@@ -43,22 +68,40 @@ def places_of(numbers):
     return [(numbers[i], numbers[i + 1]) for i in range(0, len(numbers), 2)]
 
 
-def refusal_of_untouching(pegs, way):
-    """The refusal of a call whose way may touch no mark, or 0."""
-    refused = refusal_of_places(pegs, way)
+def refusal_of_joined(pegs, one, other):
+    """The refusal of a call whose two ways begin and end together and touch no mark, or 0."""
+    refused = refusal_of_untouching(pegs, [one, other])
     if refused != 0:
         return refused
-    if first_touch(pegs, way) is not None:
-        return TOUCHES_MARK
+    if one[0] != other[0] or one[-1] != other[-1]:
+        return OTHER_ENDS
     return 0
 
 
-def refusal_of_places(pegs, way):
-    """The refusal of marks and a way by their counts and places, or 0."""
-    if not is_count(len(pegs), MOST_MARKS) or not is_count(len(way), MOST_PLACES):
+def refusal_of_untouching(pegs, ways):
+    """The refusal of a call whose ways may touch no mark, or 0."""
+    refused = refusal_of_places(pegs, ways)
+    if refused != 0:
+        return refused
+    for way in ways:
+        if first_touch(pegs, way) is not None:
+            return TOUCHES_MARK
+    return 0
+
+
+def refusal_of_places(pegs, ways):
+    """The refusal of marks and ways by their counts and places, or 0."""
+    # Every count comes ahead of every place, so the ways are gone through once for each.
+    if not is_count(len(pegs), MOST_MARKS):
         return WRONG_COUNT
-    if has_far_place(pegs) or has_far_place(way) or has_place_twice(pegs):
+    for way in ways:
+        if not is_count(len(way), MOST_PLACES):
+            return WRONG_COUNT
+    if has_far_place(pegs) or has_place_twice(pegs):
         return WRONG_PLACE
+    for way in ways:
+        if has_far_place(way):
+            return WRONG_PLACE
     return 0
 
 
@@ -118,6 +161,23 @@ def side_of(place, start, end):
     along = (end[0] - start[0]) * (place[1] - start[1])
     across = (end[1] - start[1]) * (place[0] - start[0])
     return along - across
+
+
+def string_of_way(pegs, way):
+    """The string of a way that touches no mark."""
+    return pulled(letters_of_way(pegs, way))
+
+
+def pulled(letters):
+    """The letters without those side by side that undo one another, until there are none."""
+    kept = []
+    for letter in letters:
+        # What is kept never has such two, so only its last letter can go out with the one that comes.
+        if len(kept) > 0 and kept[-1] == -letter:
+            kept.pop()
+        else:
+            kept.append(letter)
+    return kept
 
 
 def letters_of_way(pegs, way):

@@ -6,6 +6,7 @@ import contextlib
 import inspect
 import io
 import pathlib
+import re
 import sys
 import unittest
 
@@ -16,7 +17,30 @@ ALLOWED_BUILTINS = (
     "len range enumerate zip min max sum abs sorted reversed int str bool list tuple dict set frozenset isinstance"
     " ord repr any all divmod"
 ).split()
-CALLS = [ways.touch, ways.word]
+ALLOWED_NODES = (
+    "Module FunctionDef arguments arg Expr Assign AugAssign If For While Return Break Continue Pass Call keyword"
+    " Attribute Subscript Slice Name Load Store Constant List Tuple Dict ListComp comprehension Lambda IfExp BoolOp And"
+    " Or UnaryOp Not USub BinOp Add Sub Mult FloorDiv Mod Compare Eq NotEq Lt LtE Gt GtE In NotIn Is IsNot"
+).split()
+ALLOWED_METHODS = "append clear copy count extend get index insert items keys pop remove reverse values".split()
+BARRED_WORDS = (
+    "type typing typing_extensions enum Enum IntEnum StrEnum Flag IntFlag Generic Protocol ABC ABCMeta namedtuple"
+    " NamedTuple TypedDict TYPE_CHECKING abstractmethod dataclass overload contextmanager register mro elements open"
+    " input version_info with_traceback add_note"
+).split()
+PARAMETERS = {
+    "touch": ["marks", "a"],
+    "word": ["marks", "a"],
+    "string": ["marks", "a"],
+    "same": ["marks", "a", "b"],
+}
+CALLS = [getattr(ways, name) for name in PARAMETERS]
+
+
+def fitted(call, marks, a, b):
+    """What is handed to the call, in its order."""
+    handed_in = {"marks": marks, "a": a, "b": b}
+    return [handed_in[name] for name in PARAMETERS[call.__name__]]
 
 
 def package_files():
@@ -27,20 +51,40 @@ def parsed_nodes(path):
     return list(ast.walk(ast.parse(path.read_text(encoding="ascii"))))
 
 
+def bound_names(path):
+    names = []
+    for node in parsed_nodes(path):
+        if isinstance(node, ast.FunctionDef):
+            names.append(node.name)
+        elif isinstance(node, ast.arg):
+            names.append(node.arg)
+        elif isinstance(node, ast.Name) and isinstance(node.ctx, ast.Store):
+            names.append(node.id)
+    return names
+
+
 class Calls(unittest.TestCase):
     def test_names_and_arguments(self):
         for call in CALLS:
-            self.assertEqual(["marks", "a"], list(inspect.signature(call).parameters))
-            self.assertEqual(call(marks=[0, 0], a=[0, 0]), call([0, 0], [0, 0]))
+            self.assertEqual(PARAMETERS[call.__name__], list(inspect.signature(call).parameters))
+            given = fitted(call, [0, 0], [-5, -5, 5, -5], [-5, -5, 5, 5, 5, -5])
+            self.assertEqual(call(*given), call(**dict(zip(PARAMETERS[call.__name__], given))))
 
     def test_nothing_is_kept_between_calls(self):
-        given = [([0, 0], [-5, -5, 5, -5]), ([], []), ([0, 0, 0, 0], [1, 1]), ([0, 0], [0, 0]), ([3, 9], [0, 0, 9, 0])]
-        for call in CALLS:
-            alone = [call(list(marks), list(a)) for marks, a in given]
+        inputs = [
+            ([0, 0], [-5, -5, 5, -5], [-5, -5, -5, 5, 5, -5]),
+            ([], [], []),
+            ([0, 0, 0, 0], [1, 1], [1, 1]),
+            ([0, 0], [0, 0], [0, 0]),
+            ([3, 9], [0, 0, 9, 0], [0, 0, 9, 0]),
+            ([3, 9], [0, 0, 9, 0], [9, 0, 0, 0]),
+        ]
+        alone = [[call(*fitted(call, *given)) for given in inputs] for call in CALLS]
+        for call, answers in zip(CALLS, alone):
             for other in CALLS:
-                for marks, a in reversed(given):
-                    other(marks, a)
-            self.assertEqual(alone, [call(marks, a) for marks, a in given])
+                for given in reversed(inputs):
+                    other(*fitted(other, *given))
+            self.assertEqual(answers, [call(*fitted(call, *given)) for given in inputs])
 
     def test_a_list_changed_by_its_owner_is_looked_at_anew(self):
         marks, a = [0, 0], [-5, -5, 5, -5]
@@ -60,20 +104,21 @@ class Calls(unittest.TestCase):
         said = io.StringIO()
         with contextlib.redirect_stdout(said), contextlib.redirect_stderr(said):
             for call in CALLS:
-                call([0, 0], [-5, -5, 5, -5])
-                call([], [])
+                call(*fitted(call, [0, 0], [-5, -5, 5, -5], [-5, -5, 5, -5]))
+                call(*fitted(call, [], [], []))
         self.assertEqual("", said.getvalue())
 
     def test_long_ways_are_gone_through_by_loops(self):
         marks = [number for k in range(32) for number in (10 * k, 0)]
-        a = [-5, -5, 315, -5] * 512
+        a = [-5, -5, 315, -5, 155, 400] * 341 + [-5, -5]
+        b = [-5, -5, 315, -5, 155, 401] * 341 + [-5, -5]
         usual = sys.getrecursionlimit()
         sys.setrecursionlimit(len(inspect.stack(0)) + 40)
         try:
-            lengths = [len(call(marks, a)) for call in CALLS]
+            lengths = {call.__name__: len(call(*fitted(call, marks, a, b))) for call in CALLS}
         finally:
             sys.setrecursionlimit(usual)
-        self.assertEqual([1, 1 + 1023 * 32], lengths)
+        self.assertEqual({"touch": 1, "word": 10913, "string": 10913, "same": 1}, lengths)
 
 
 class Files(unittest.TestCase):
@@ -104,16 +149,50 @@ class Files(unittest.TestCase):
                     self.assertLessEqual(node.end_lineno - node.lineno + 1, 40, node.name)
 
     def test_statements_and_values(self):
-        outside = (
-            ast.With, ast.Match, ast.Delete, ast.Global, ast.Nonlocal, ast.Assert, ast.Yield, ast.YieldFrom,
-            ast.AsyncFunctionDef, ast.Await, ast.SetComp, ast.DictComp, ast.GeneratorExp, ast.NamedExpr,
-            ast.Starred, ast.Div,
-        )
         for path in package_files():
             for node in parsed_nodes(path):
-                self.assertNotIsInstance(node, outside)
+                self.assertIn(node.__class__.__name__, ALLOWED_NODES)
                 if isinstance(node, ast.Constant):
-                    self.assertNotIsInstance(node.value, (float, complex, bytes))
+                    self.assertIn(node.value.__class__, (int, str, bool, None.__class__))
+                if isinstance(node, (ast.For, ast.While)):
+                    self.assertEqual([], node.orelse)
+                if isinstance(node, ast.Assign):
+                    self.assertEqual(1, len(node.targets))
+                if isinstance(node, ast.ListComp):
+                    self.assertEqual(1, len(node.generators))
+                    self.assertLessEqual(len(node.generators[0].ifs), 1)
+
+    def test_is_stands_beside_plain_values_alone(self):
+        for path in package_files():
+            for node in parsed_nodes(path):
+                if isinstance(node, ast.Compare) and isinstance(node.ops[0], (ast.Is, ast.IsNot)):
+                    self.assertIn(ast.unparse(node.comparators[0]), ("None", "True", "False"))
+
+    def test_names(self):
+        for path in package_files():
+            for name in bound_names(path):
+                self.assertRegex(name, "^[A-Za-z][A-Za-z0-9_]*$")
+                self.assertFalse(hasattr(builtins, name), name)
+
+    def test_each_name_at_the_top_is_bound_once(self):
+        for path in package_files():
+            tree = ast.parse(path.read_text(encoding="ascii"))
+            names = [node.name for node in tree.body if isinstance(node, ast.FunctionDef)]
+            names += [node.targets[0].id for node in tree.body if isinstance(node, ast.Assign)]
+            self.assertEqual(len(names), len(set(names)))
+
+    def test_methods_and_keywords(self):
+        for path in package_files():
+            for node in parsed_nodes(path):
+                if isinstance(node, ast.Attribute):
+                    self.assertIn(node.attr, ALLOWED_METHODS)
+                if isinstance(node, ast.Call):
+                    self.assertLessEqual({keyword.arg for keyword in node.keywords}, {"key"})
+
+    def test_words_that_stand_nowhere(self):
+        for path in package_files():
+            words = set(re.findall(r"\w+", path.read_text(encoding="ascii")))
+            self.assertEqual(set(), words & set(BARRED_WORDS))
 
 
 if __name__ == "__main__":

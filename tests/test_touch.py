@@ -6,7 +6,7 @@ from tests.helping import GREATEST, LEAST, check_call, drawn_cases, grid, slow_t
 
 class TouchCase(unittest.TestCase):
     def answers(self, marks, a, expected):
-        check_call(self, touch, marks, a, expected)
+        check_call(self, touch, expected, marks, a)
 
 
 class OrdinaryTouch(TouchCase):
@@ -141,7 +141,7 @@ class TouchByFractions(unittest.TestCase):
     def test_drawn_ways(self):
         for seed, reach in enumerate([3, 12, 60, GREATEST]):
             for marks, way in drawn_cases(seed, 150, reach, 7, 12):
-                check_call(self, touch, marks, way, slow_touch(marks, way))
+                check_call(self, touch, slow_touch(marks, way), marks, way)
 
 
 if __name__ == "__main__":

@@ -1,12 +1,12 @@
 import unittest
 
 from peglines.ways import word
-from tests.helping import GREATEST, LEAST, check_call, drawn_cases, flat, grid, slow_word
+from tests.helping import GREATEST, LEAST, check_call, drawn_cases, flat, grid, slow_word, turned
 
 
 class WordCase(unittest.TestCase):
     def answers(self, marks, a, expected):
-        check_call(self, word, marks, a, expected)
+        check_call(self, word, expected, marks, a)
 
 
 class OrdinaryWord(WordCase):
@@ -165,7 +165,7 @@ class WordByFractions(unittest.TestCase):
     def test_drawn_ways(self):
         for seed, reach in enumerate([3, 12, 60, GREATEST]):
             for marks, way in drawn_cases(seed, 150, reach, 7, 12):
-                check_call(self, word, marks, way, slow_word(marks, way))
+                check_call(self, word, slow_word(marks, way), marks, way)
 
     def test_turned_round_and_parted(self):
         untouching = 0
@@ -173,8 +173,7 @@ class WordByFractions(unittest.TestCase):
             whole = slow_word(marks, way)
             if whole != [-9]:
                 untouching += 1
-                turned = [-letter for letter in reversed(whole[1:])]
-                check_call(self, word, marks, way[::-1], [len(turned)] + turned)
+                check_call(self, word, whole[:1] + turned(whole[1:]), marks, way[::-1])
                 middle = len(way) // 2
                 parts = [word(flat(marks), flat(part)) for part in (way[: middle + 1], way[middle:])]
                 self.assertEqual(whole[1:], parts[0][1:] + parts[1][1:])

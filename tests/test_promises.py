@@ -1,0 +1,125 @@
+"""The document's promises, point by point, at ways drawn at random."""
+
+import unittest
+from random import Random
+
+from peglines.ways import same, string, word
+from tests.helping import (
+    CHANGES, drawn_free_way, drawn_marks, drawn_same, flat, slow_pulled, turned, with_place_on_step, with_to_and_fro,
+    without_slack_place,
+)
+
+
+def letters(marks, way):
+    return string(flat(marks), flat(way))[1:]
+
+
+def are_one(marks, a, b):
+    return same(flat(marks), flat(a), flat(b)) == [1]
+
+
+def drawn(seed, how_many, reach=40, most_marks=6, most_places=12):
+    """Marks and ways that touch none of them, each with the source that they were drawn from."""
+    source = Random(seed)
+    for case_number in range(how_many):
+        marks = drawn_marks(source, reach, most_marks)
+        yield source, marks, drawn_free_way(source, marks, reach, most_places)
+
+
+class PointOne(unittest.TestCase):
+    """The string is one, whichever letters are taken out first."""
+
+    def test_letters_taken_out_as_drawn(self):
+        shortened = 0
+        for source, marks, way in drawn(101, 300):
+            whole = word(flat(marks), flat(way))[1:]
+            for try_number in range(3):
+                self.assertEqual(slow_pulled(whole, source), letters(marks, way))
+            shortened += len(letters(marks, way)) < len(whole)
+        self.assertGreater(shortened, 100)
+
+    def test_no_two_that_undo_one_another_are_left(self):
+        for source, marks, way in drawn(102, 300):
+            pulled = letters(marks, way)
+            self.assertTrue(all(one != -two for one, two in zip(pulled, pulled[1:])))
+
+
+class PointTwo(unittest.TestCase):
+    """What changes no string."""
+
+    def check_change(self, seed, change):
+        changed = 0
+        for source, marks, way in drawn(seed, 200):
+            other = change(source, marks, way)
+            changed += other != way
+            self.assertEqual(letters(marks, way), letters(marks, other), (marks, way, other))
+            self.assertTrue(are_one(marks, way, other))
+        self.assertGreater(changed, 100)
+
+    def test_a_place_put_in_on_a_step(self):
+        self.check_change(201, with_place_on_step)
+
+    def test_a_way_to_and_fro_put_in(self):
+        self.check_change(202, with_to_and_fro)
+
+    def test_a_slack_place_left_out(self):
+        self.check_change(203, without_slack_place)
+
+    def test_many_changes(self):
+        self.check_change(204, drawn_same)
+        self.assertEqual(3, len(CHANGES))
+
+
+class PointThree(unittest.TestCase):
+    """A way turned round, and ways one behind another."""
+
+    def test_turned_round(self):
+        for source, marks, way in drawn(301, 300):
+            self.assertEqual(turned(letters(marks, way)), letters(marks, way[::-1]))
+
+    def test_one_behind_another(self):
+        shortened = 0
+        for source, marks, way in drawn(302, 600):
+            behind = drawn_free_way(source, marks, 40, 8, begin=way[-1])
+            if source.random() < 0.5:
+                part_back = way[source.randrange(len(way)) :][::-1]
+                behind = drawn_same(source, marks, part_back) + drawn_free_way(source, marks, 40, 4, part_back[-1])[1:]
+            together = letters(marks, way) + letters(marks, behind)
+            self.assertEqual(slow_pulled(together, source), letters(marks, way + behind))
+            self.assertEqual(slow_pulled(together, source), letters(marks, way + behind[1:]))
+            shortened += len(letters(marks, way + behind)) < len(together)
+        self.assertGreater(shortened, 100)
+
+
+class PointFour(unittest.TestCase):
+    """Same, of a way and itself, either way round, and from one to a third."""
+
+    def test_same_of_a_way_and_itself(self):
+        for source, marks, way in drawn(401, 200):
+            self.assertTrue(are_one(marks, way, way))
+            self.assertTrue(are_one(marks, way, list(way)))
+
+    def test_same_either_way_round(self):
+        told = {False: 0, True: 0}
+        for source, marks, way in drawn(402, 600, most_marks=3, most_places=4):
+            other = drawn_free_way(source, marks, 40, 2, begin=way[0], end=way[-1])
+            told[are_one(marks, way, other)] += 1
+            self.assertEqual(are_one(marks, way, other), are_one(marks, other, way))
+            self.assertEqual(are_one(marks, way, other), are_one(marks, way[::-1], other[::-1]))
+        self.assertGreater(min(told.values()), 50)
+
+    def test_same_from_one_to_a_third(self):
+        joined = 0
+        for source, marks, way in drawn(403, 300, most_marks=3, most_places=4):
+            second = drawn_free_way(source, marks, 40, 2, begin=way[0], end=way[-1])
+            third = drawn_same(source, marks, second)
+            fourth = drawn_free_way(source, marks, 40, 2, begin=way[0], end=way[-1])
+            self.assertEqual(are_one(marks, way, second), are_one(marks, way, third))
+            if are_one(marks, way, second) and are_one(marks, second, fourth):
+                joined += 1
+                self.assertTrue(are_one(marks, way, fourth))
+        self.assertGreater(joined, 20)
+
+
+if __name__ == "__main__":
+    unittest.main()

@@ -63,6 +63,29 @@ def same(marks, a, b):
     return [0]
 
 
+def differ(marks, a, b):
+    """Answer the first place at which the strings of two ways differ, and the letters there, a's first."""
+    pegs = places_of(marks)
+    one = places_of(a)
+    other = places_of(b)
+    refused = refusal_of_joined(pegs, one, other)
+    if refused != 0:
+        return [refused]
+    return first_difference(string_of_way(pegs, one), string_of_way(pegs, other))
+
+
+def left(marks, a, b):
+    """Answer how many letters are left to do of a for b, then the letters."""
+    pegs = places_of(marks)
+    one = places_of(a)
+    other = places_of(b)
+    refused = refusal_of_branching(pegs, one, other)
+    if refused != 0:
+        return [refused]
+    letters = string_of_way(pegs, list(reversed(one)) + other)
+    return [len(letters)] + letters
+
+
 def places_of(numbers):
     """The places of a flat list, as pairs (x, y)."""
     return [(numbers[i], numbers[i + 1]) for i in range(0, len(numbers), 2)]
@@ -70,10 +93,20 @@ def places_of(numbers):
 
 def refusal_of_joined(pegs, one, other):
     """The refusal of a call whose two ways begin and end together and touch no mark, or 0."""
+    refused = refusal_of_branching(pegs, one, other)
+    if refused != 0:
+        return refused
+    if one[-1] != other[-1]:
+        return OTHER_ENDS
+    return 0
+
+
+def refusal_of_branching(pegs, one, other):
+    """The refusal of a call whose two ways begin together and touch no mark, or 0."""
     refused = refusal_of_untouching(pegs, [one, other])
     if refused != 0:
         return refused
-    if one[0] != other[0] or one[-1] != other[-1]:
+    if one[0] != other[0]:
         return OTHER_ENDS
     return 0
 
@@ -178,6 +211,21 @@ def pulled(letters):
         else:
             kept.append(letter)
     return kept
+
+
+def first_difference(letters, others):
+    """The first place at which two strings differ and the letters there, or the refusal if there is none."""
+    for i in range(max(len(letters), len(others))):
+        if letter_at(letters, i) != letter_at(others, i):
+            return [i, letter_at(letters, i), letter_at(others, i)]
+    return [NONE_FOUND]
+
+
+def letter_at(letters, i):
+    """The letter at place i, or 0, which is no letter, where the string has ended."""
+    if i < len(letters):
+        return letters[i]
+    return 0
 
 
 def letters_of_way(pegs, way):

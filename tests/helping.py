@@ -1,6 +1,7 @@
 """What several test files need: lists that refuse changes, inputs with faults, slow second answers, drawn ways."""
 
 from fractions import Fraction
+from itertools import zip_longest
 from math import gcd
 from random import Random
 
@@ -178,6 +179,18 @@ def slow_string(marks, way, source):
     return [len(letters)] + letters
 
 
+def slow_differ(marks, a, b, source):
+    one, other = slow_string(marks, a, source)[1:], slow_string(marks, b, source)[1:]
+    for place, (letter, other_letter) in enumerate(zip_longest(one, other, fillvalue=0)):
+        if letter != other_letter:
+            return [place, letter, other_letter]
+    return [-3]
+
+
+def slow_left(marks, a, b, source):
+    return slow_string(marks, a[::-1] + b, source)
+
+
 def turned(letters):
     return [-letter for letter in reversed(letters)]
 
@@ -229,11 +242,16 @@ def drawn_cases(seed, how_many, reach, most_marks, most_places):
 
 def drawn_free_way(source, marks, reach, most_places, begin=None, end=None):
     """A way that touches no mark, with these ends where they are given."""
+    way = [] if begin is None else [begin]
+    wanted = len(way) + source.randint(1, most_places)
     while True:
-        way = drawn_way(source, reach, most_places)
-        way = ([] if begin is None else [begin]) + way + ([] if end is None else [end])
-        if slow_touch(marks, way) == [-3]:
-            return way
+        step = way[-1:] + [drawn_place(source, reach)]
+        # Of a way that is to end somewhere, the last drawn place is drawn until it has a free step there.
+        ending = [end] if end is not None and len(way) + 1 == wanted else []
+        if slow_touch(marks, step + ending) == [-3]:
+            way = way + step[-1:] + ending
+            if len(way) >= wanted:
+                return way
 
 
 def with_place_on_step(source, marks, way):

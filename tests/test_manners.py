@@ -33,6 +33,8 @@ PARAMETERS = {
     "word": ["marks", "a"],
     "string": ["marks", "a"],
     "same": ["marks", "a", "b"],
+    "differ": ["marks", "a", "b"],
+    "left": ["marks", "a", "b"],
 }
 CALLS = [getattr(ways, name) for name in PARAMETERS]
 
@@ -118,7 +120,8 @@ class Calls(unittest.TestCase):
             lengths = {call.__name__: len(call(*fitted(call, marks, a, b))) for call in CALLS}
         finally:
             sys.setrecursionlimit(usual)
-        self.assertEqual({"touch": 1, "word": 10913, "string": 10913, "same": 1}, lengths)
+        expected = {"touch": 1, "word": 10913, "string": 10913, "same": 1, "differ": 1, "left": 1}
+        self.assertEqual(expected, lengths)
 
 
 class Files(unittest.TestCase):

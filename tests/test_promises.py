@@ -3,7 +3,7 @@
 import unittest
 from random import Random
 
-from peglines.ways import same, string, word
+from peglines.ways import left, same, string, word
 from tests.helping import (
     CHANGES, drawn_free_way, drawn_marks, drawn_same, flat, slow_pulled, turned, with_place_on_step, with_to_and_fro,
     without_slack_place,
@@ -14,11 +14,15 @@ def letters(marks, way):
     return string(flat(marks), flat(way))[1:]
 
 
+def letters_left(marks, a, b):
+    return left(flat(marks), flat(a), flat(b))[1:]
+
+
 def are_one(marks, a, b):
     return same(flat(marks), flat(a), flat(b)) == [1]
 
 
-def drawn(seed, how_many, reach=40, most_marks=6, most_places=12):
+def drawn(seed, how_many, reach=40, most_marks=9, most_places=18):
     """Marks and ways that touch none of them, each with the source that they were drawn from."""
     source = Random(seed)
     for case_number in range(how_many):
@@ -76,6 +80,13 @@ class PointThree(unittest.TestCase):
     def test_turned_round(self):
         for source, marks, way in drawn(301, 300):
             self.assertEqual(turned(letters(marks, way)), letters(marks, way[::-1]))
+            self.assertEqual(turned(letters(marks, way)), letters_left(marks, way, way[:1]))
+
+    def test_what_is_left_turned_round(self):
+        for source, marks, way in drawn(303, 300):
+            other = drawn_free_way(source, marks, 40, 12, begin=way[0])
+            self.assertEqual(turned(letters_left(marks, way, other)), letters_left(marks, other, way))
+            self.assertEqual(letters(marks, way[::-1] + other), letters_left(marks, way, other))
 
     def test_one_behind_another(self):
         shortened = 0
@@ -92,7 +103,7 @@ class PointThree(unittest.TestCase):
 
 
 class PointFour(unittest.TestCase):
-    """Same, of a way and itself, either way round, and from one to a third."""
+    """Same, of a way and itself, either way round, from one to a third; and what is left to do."""
 
     def test_same_of_a_way_and_itself(self):
         for source, marks, way in drawn(401, 200):
@@ -119,6 +130,26 @@ class PointFour(unittest.TestCase):
                 joined += 1
                 self.assertTrue(are_one(marks, way, fourth))
         self.assertGreater(joined, 20)
+
+    def test_nothing_is_left_of_a_way_for_itself(self):
+        for source, marks, way in drawn(404, 200):
+            self.assertEqual([], letters_left(marks, way, way))
+            self.assertEqual([], letters_left(marks, way, drawn_same(source, marks, way)))
+
+    def test_with_what_is_left_done_it_is_the_other(self):
+        for source, marks, way in drawn(405, 300):
+            other = drawn_free_way(source, marks, 40, 12, begin=way[0])
+            what_is_left = letters_left(marks, way, other)
+            self.assertEqual(letters(marks, other), slow_pulled(letters(marks, way) + what_is_left, source))
+            self.assertTrue(are_one(marks, way + way[::-1] + other, other))
+
+    def test_nothing_is_left_just_where_ways_are_one_string(self):
+        told = {False: 0, True: 0}
+        for source, marks, way in drawn(406, 600, most_marks=3, most_places=4):
+            other = drawn_free_way(source, marks, 40, 2, begin=way[0], end=way[-1])
+            told[are_one(marks, way, other)] += 1
+            self.assertEqual(are_one(marks, way, other), letters_left(marks, way, other) == [])
+        self.assertGreater(min(told.values()), 50)
 
 
 if __name__ == "__main__":

@@ -10,6 +10,7 @@ FARTHEST = 1048576
 
 WRONG_COUNT = -2
 NONE_FOUND = -3
+NO_SUCH_MARK = -4
 WRONG_PLACE = -8
 OTHER_ENDS = -8
 TOUCHES_MARK = -9
@@ -84,6 +85,32 @@ def left(marks, a, b):
         return [refused]
     letters = string_of_way(pegs, list(reversed(one)) + other)
     return [len(letters)] + letters
+
+
+def round_of(k, marks, a):
+    """Answer 0, and how often the way goes round mark k: eastward below it, less westward below it."""
+    pegs = places_of(marks)
+    way = places_of(a)
+    refused = refusal_of_untouching(pegs, [way])
+    if refused != 0:
+        return [refused]
+    if k >= len(pegs):
+        return [NO_SUCH_MARK]
+    letters = letters_of_way(pegs, way)
+    return [0, letters.count(k + 1) - letters.count(-(k + 1))]
+
+
+def slack(marks, a):
+    """Answer the number of the first inner place that is slack."""
+    pegs = places_of(marks)
+    way = places_of(a)
+    refused = refusal_of_places(pegs, [way])
+    if refused != 0:
+        return [refused]
+    for i in range(1, len(way) - 1):
+        if is_slack(pegs, way[i - 1], way[i], way[i + 1]):
+            return [i]
+    return [NONE_FOUND]
 
 
 def places_of(numbers):
@@ -194,6 +221,23 @@ def side_of(place, start, end):
     along = (end[0] - start[0]) * (place[1] - start[1])
     across = (end[1] - start[1]) * (place[0] - start[0])
     return along - across
+
+
+def is_slack(pegs, before, place, behind):
+    """Whether no mark lies within or on the edge of the triangle of a place and those beside it."""
+    for peg in pegs:
+        if lies_in(peg, before, place, behind):
+            return False
+    return True
+
+
+def lies_in(place, one, two, three):
+    """Whether the place lies within or on the edge of a triangle, which may be flat, or one place."""
+    sides = [side_of(place, one, two), side_of(place, two, three), side_of(place, three, one)]
+    if min(sides) > 0 or max(sides) < 0:
+        return True
+    # Of a flat triangle a side alone tells nothing, so its edges are asked one by one.
+    return lies_on(place, one, two) or lies_on(place, two, three) or lies_on(place, three, one)
 
 
 def string_of_way(pegs, way):

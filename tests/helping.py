@@ -214,6 +214,10 @@ def slow_slack_places(marks, way):
     ]
 
 
+def slow_slack(marks, way):
+    return slow_slack_places(marks, way)[:1] or [-3]
+
+
 def drawn_place(source, reach):
     return (source.randint(-reach, reach), source.randint(-reach, reach))
 
@@ -288,6 +292,14 @@ def drawn_same(source, marks, way):
     for change_number in range(source.randint(1, 8)):
         way = source.choice(CHANGES)(source, marks, way)
     return way
+
+
+def slow_round_of(k, marks, way):
+    answered = slow_word(marks, way)
+    if answered == [-9]:
+        return answered
+    letters = answered[1:]
+    return [0, sum(1 for letter in letters if letter == k + 1) - sum(1 for letter in letters if letter == -k - 1)]
 
 
 def grid(side):

@@ -35,13 +35,15 @@ PARAMETERS = {
     "same": ["marks", "a", "b"],
     "differ": ["marks", "a", "b"],
     "left": ["marks", "a", "b"],
+    "round_of": ["k", "marks", "a"],
+    "slack": ["marks", "a"],
 }
 CALLS = [getattr(ways, name) for name in PARAMETERS]
 
 
 def fitted(call, marks, a, b):
     """What is handed to the call, in its order."""
-    handed_in = {"marks": marks, "a": a, "b": b}
+    handed_in = {"k": 0, "marks": marks, "a": a, "b": b}
     return [handed_in[name] for name in PARAMETERS[call.__name__]]
 
 
@@ -121,6 +123,7 @@ class Calls(unittest.TestCase):
         finally:
             sys.setrecursionlimit(usual)
         expected = {"touch": 1, "word": 10913, "string": 10913, "same": 1, "differ": 1, "left": 1}
+        expected.update({"round_of": 2, "slack": 1})
         self.assertEqual(expected, lengths)
 
 

@@ -3,7 +3,7 @@
 import unittest
 from random import Random
 
-from peglines.ways import left, same, string, word
+from peglines.ways import left, round_of, same, slack, string, word
 from tests.helping import (
     CHANGES, drawn_free_way, drawn_marks, drawn_same, flat, slow_pulled, turned, with_place_on_step, with_to_and_fro,
     without_slack_place,
@@ -16,6 +16,10 @@ def letters(marks, way):
 
 def letters_left(marks, a, b):
     return left(flat(marks), flat(a), flat(b))[1:]
+
+
+def rounds(k, marks, way):
+    return round_of(k, flat(marks), flat(way))[1]
 
 
 def are_one(marks, a, b):
@@ -68,6 +72,24 @@ class PointTwo(unittest.TestCase):
 
     def test_a_slack_place_left_out(self):
         self.check_change(203, without_slack_place)
+
+    def test_the_place_left_out_that_slack_tells(self):
+        left_out = 0
+        for source, marks, way in drawn(205, 200):
+            i = slack(flat(marks), flat(way))[0]
+            if i != -3:
+                left_out += 1
+                other = way[:i] + way[i + 1 :]
+                self.assertEqual(letters(marks, way), letters(marks, other))
+                self.assertTrue(are_one(marks, way, other))
+                self.assertEqual([], letters_left(marks, way, other))
+        self.assertGreater(left_out, 100)
+
+    def test_round_is_not_changed_either(self):
+        for source, marks, way in drawn(206, 200):
+            other = drawn_same(source, marks, way)
+            for k in range(len(marks)):
+                self.assertEqual(rounds(k, marks, way), rounds(k, marks, other))
 
     def test_many_changes(self):
         self.check_change(204, drawn_same)
@@ -150,6 +172,26 @@ class PointFour(unittest.TestCase):
             told[are_one(marks, way, other)] += 1
             self.assertEqual(are_one(marks, way, other), letters_left(marks, way, other) == [])
         self.assertGreater(min(told.values()), 50)
+
+
+class PointFive(unittest.TestCase):
+    """Round counts what the string has, too."""
+
+    def test_counted_in_the_string(self):
+        shortened = 0
+        for source, marks, way in drawn(501, 300):
+            pulled = letters(marks, way)
+            shortened += len(pulled) < word(flat(marks), flat(way))[0]
+            for k in range(len(marks)):
+                self.assertEqual(pulled.count(k + 1) - pulled.count(-k - 1), rounds(k, marks, way))
+        self.assertGreater(shortened, 100)
+
+    def test_turned_round_and_one_behind_another(self):
+        for source, marks, way in drawn(502, 200):
+            behind = drawn_free_way(source, marks, 40, 8, begin=way[-1])
+            for k in range(len(marks)):
+                self.assertEqual(-rounds(k, marks, way), rounds(k, marks, way[::-1]))
+                self.assertEqual(rounds(k, marks, way) + rounds(k, marks, behind), rounds(k, marks, way + behind))
 
 
 if __name__ == "__main__":

@@ -113,6 +113,20 @@ def slack(marks, a):
     return [NONE_FOUND]
 
 
+def without(marks, a):
+    """Answer how many places the way pulled tight has, then the places, each as x, y."""
+    pegs = places_of(marks)
+    way = places_of(a)
+    refused = refusal_of_untouching(pegs, [way])
+    if refused != 0:
+        return [refused]
+    tight = pulled_tight(pegs, way)
+    answer = [len(tight)]
+    for place in tight:
+        answer.extend(place)
+    return answer
+
+
 def places_of(numbers):
     """The places of a flat list, as pairs (x, y)."""
     return [(numbers[i], numbers[i + 1]) for i in range(0, len(numbers), 2)]
@@ -221,6 +235,18 @@ def side_of(place, start, end):
     along = (end[0] - start[0]) * (place[1] - start[1])
     across = (end[1] - start[1]) * (place[0] - start[0])
     return along - across
+
+
+def pulled_tight(pegs, way):
+    """The way with its first slack place left out, again and again until it has none."""
+    kept = []
+    for place in way:
+        # Up to its last place what is kept has no slack one, so that one is the first that can be slack; once it is
+        # left out, only the one before it stands in another triangle.
+        while len(kept) > 1 and is_slack(pegs, kept[-2], kept[-1], place):
+            kept.pop()
+        kept.append(place)
+    return kept
 
 
 def is_slack(pegs, before, place, behind):

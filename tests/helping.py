@@ -218,6 +218,21 @@ def slow_slack(marks, way):
     return slow_slack_places(marks, way)[:1] or [-3]
 
 
+def slow_tight(marks, way):
+    """The way pulled tight, looked through from its beginning each time."""
+    while slow_slack_places(marks, way):
+        i = slow_slack_places(marks, way)[0]
+        way = way[:i] + way[i + 1 :]
+    return way
+
+
+def slow_without(marks, way):
+    if slow_touch(marks, way) != [-3]:
+        return [-9]
+    tight = slow_tight(marks, way)
+    return [len(tight)] + flat(tight)
+
+
 def drawn_place(source, reach):
     return (source.randint(-reach, reach), source.randint(-reach, reach))
 

@@ -9,8 +9,10 @@ import pathlib
 import re
 import sys
 import unittest
+from random import Random
 
 from peglines import ways
+from tests.helping import Sealed, drawn_free_way, drawn_marks, drawn_same, flat
 
 PACKAGE = pathlib.Path(ways.__file__).parent
 ALLOWED_BUILTINS = (
@@ -37,6 +39,7 @@ PARAMETERS = {
     "left": ["marks", "a", "b"],
     "round_of": ["k", "marks", "a"],
     "slack": ["marks", "a"],
+    "without": ["marks", "a"],
 }
 CALLS = [getattr(ways, name) for name in PARAMETERS]
 
@@ -98,11 +101,27 @@ class Calls(unittest.TestCase):
         self.assertEqual([-9], ways.word(marks, a))
         self.assertEqual([0, 0, 0], ways.touch(marks, a))
 
-    def test_one_list_handed_in_twice(self):
-        places = [0, 0, 4, 4]
-        self.assertEqual([0, 0, 0], ways.touch(places, places))
-        self.assertEqual([-9], ways.word(places, places))
-        self.assertEqual([0, 0, 4, 4], places)
+    def test_one_list_handed_in_as_all(self):
+        for call in CALLS:
+            places = Sealed([0, 0, 4, 4])
+            expected = {"touch": [0, 0, 0], "slack": [-3]}.get(call.__name__, [-9])
+            self.assertEqual(expected, call(*fitted(call, places, places, places)))
+            self.assertEqual([0, 0, 4, 4], places)
+
+    def test_every_call_leaves_what_is_handed_in_and_answers_again(self):
+        source = Random(91)
+        for case_number in range(100):
+            marks = drawn_marks(source, 20, 6)
+            a = drawn_free_way(source, marks, 20, 8)
+            ways_for_b = [drawn_free_way(source, marks, 20, 4, begin=a[0], end=a[-1]), drawn_same(source, marks, a), a]
+            for b in ways_for_b + [drawn_free_way(source, marks, 20, 4), [], marks]:
+                for call in CALLS:
+                    given = fitted(call, flat(marks), flat(a), flat(b))
+                    answered = call(*given)
+                    self.assertEqual(fitted(call, flat(marks), flat(a), flat(b)), given)
+                    self.assertEqual(answered, call(*given))
+                    sealed = fitted(call, Sealed(flat(marks)), Sealed(flat(a)), Sealed(flat(b)))
+                    self.assertEqual(answered, call(*sealed))
 
     def test_nothing_is_printed(self):
         said = io.StringIO()
@@ -123,7 +142,7 @@ class Calls(unittest.TestCase):
         finally:
             sys.setrecursionlimit(usual)
         expected = {"touch": 1, "word": 10913, "string": 10913, "same": 1, "differ": 1, "left": 1}
-        expected.update({"round_of": 2, "slack": 1})
+        expected.update({"round_of": 2, "slack": 1, "without": 2049})
         self.assertEqual(expected, lengths)
 
 

@@ -3,7 +3,7 @@
 import unittest
 from random import Random
 
-from peglines.ways import left, round_of, same, slack, string, word
+from peglines.ways import differ, left, round_of, same, slack, string, touch, without, word
 from tests.helping import (
     CHANGES, drawn_free_way, drawn_marks, drawn_same, flat, slow_pulled, turned, with_place_on_step, with_to_and_fro,
     without_slack_place,
@@ -20,6 +20,11 @@ def letters_left(marks, a, b):
 
 def rounds(k, marks, way):
     return round_of(k, flat(marks), flat(way))[1]
+
+
+def pulled_tight(marks, way):
+    numbers = without(flat(marks), flat(way))[1:]
+    return list(zip(numbers[::2], numbers[1::2]))
 
 
 def are_one(marks, a, b):
@@ -84,6 +89,28 @@ class PointTwo(unittest.TestCase):
                 self.assertTrue(are_one(marks, way, other))
                 self.assertEqual([], letters_left(marks, way, other))
         self.assertGreater(left_out, 100)
+
+    def test_pulled_tight(self):
+        shortened = 0
+        for source, marks, way in drawn(207, 300):
+            tight = pulled_tight(marks, way)
+            shortened += len(tight) < len(way)
+            self.assertEqual(letters(marks, way), letters(marks, tight))
+            self.assertTrue(are_one(marks, way, tight))
+            self.assertTrue(are_one(marks, tight, way))
+            self.assertEqual([-3], differ(flat(marks), flat(way), flat(tight)))
+            self.assertEqual([], letters_left(marks, way, tight))
+            self.assertEqual([-3], slack(flat(marks), flat(tight)))
+            self.assertEqual([-3], touch(flat(marks), flat(tight)))
+            self.assertEqual(tight, pulled_tight(marks, tight))
+            for k in range(len(marks)):
+                self.assertEqual(rounds(k, marks, way), rounds(k, marks, tight))
+        self.assertGreater(shortened, 200)
+
+    def test_pulled_tight_after_changes(self):
+        for source, marks, way in drawn(208, 200):
+            other = drawn_same(source, marks, way)
+            self.assertEqual(letters(marks, way), letters(marks, pulled_tight(marks, other)))
 
     def test_round_is_not_changed_either(self):
         for source, marks, way in drawn(206, 200):
